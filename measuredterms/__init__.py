@@ -1,0 +1,1 @@
+"""Terms worked out in a world of measures."""
