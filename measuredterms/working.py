@@ -140,25 +140,15 @@ def build_pair(builder, node, scope, offset):
     return work
 
 
-def build_first(builder, node, scope, offset):
+def build_of_pair(builder, node, scope, offset):
     part = builder.build(node.parts[0], scope, offset + 1)
+    wants_first = node.kind == "fst"
 
     def work(run, names, depth):
         pair = part(run, names, depth)
         if not isinstance(pair, Pair):
             raise WrongSort()
-        return pair.first
-    return work
-
-
-def build_second(builder, node, scope, offset):
-    part = builder.build(node.parts[0], scope, offset + 1)
-
-    def work(run, names, depth):
-        pair = part(run, names, depth)
-        if not isinstance(pair, Pair):
-            raise WrongSort()
-        return pair.second
+        return pair.first if wants_first else pair.second
     return work
 
 
@@ -221,7 +211,7 @@ def build_of_two_numbers(builder, node, scope, offset):
     return work
 
 
-def build_power(builder, node, scope, offset):
+def build_of_one_number(builder, node, scope, offset):
     part = builder.build(node.parts[0], scope, offset + 1)
     exponent = node.content
 
@@ -229,18 +219,7 @@ def build_power(builder, node, scope, offset):
         number = part(run, names, depth)
         if not isinstance(number, Number):
             raise WrongSort()
-        return raised(number, exponent)
-    return work
-
-
-def build_root(builder, node, scope, offset):
-    part = builder.build(node.parts[0], scope, offset + 1)
-
-    def work(run, names, depth):
-        number = part(run, names, depth)
-        if not isinstance(number, Number):
-            raise WrongSort()
-        return root_of(number)
+        return root_of(number) if exponent is None else raised(number, exponent)
     return work
 
 
@@ -251,8 +230,8 @@ OF_TWO_NUMBERS = {
 BUILDERS = {
     "name": build_name, "number": build_number, "true": build_true, "false": build_false, "nil": build_nil,
     "fn": build_function, "rec": build_function, "let": build_let, "if": build_if, "()": build_call,
-    "pair": build_pair, "fst": build_first, "snd": build_second, "cons": build_cons, "case": build_case,
-    "fold": build_fold, "^": build_power, "root": build_root,
+    "pair": build_pair, "fst": build_of_pair, "snd": build_of_pair, "cons": build_cons, "case": build_case,
+    "fold": build_fold, "^": build_of_one_number, "root": build_of_one_number,
     "+": build_of_two_numbers, "-": build_of_two_numbers, "*": build_of_two_numbers, "/": build_of_two_numbers,
     "floor": build_of_two_numbers, "rest": build_of_two_numbers, "<": build_of_two_numbers, "=": build_of_two_numbers,
 }

@@ -1,5 +1,7 @@
 """How tests write calls and read answers."""
 
+import unittest
+
 from measuredterms.world import answers
 
 
@@ -77,3 +79,11 @@ def list_term(parts):
     for part in reversed(parts):
         term = f"(cons {part} {term})"
     return term
+
+
+class TermCase(unittest.TestCase):
+    def check(self, rows, budget=1000, before=()):
+        """Each of the rows is a term and what a run of it is answered."""
+        for term, answer in rows:
+            with self.subTest(term):
+                self.assertEqual(value(term, budget, before), answer)

@@ -4,7 +4,7 @@ import unittest
 
 from measuredterms.desk import Desk
 from measuredterms.values import Number
-from tests.helper import ask, base, last, run, unit, value, world
+from tests.helper import TermCase, ask, base, last, run, unit, value, world
 
 
 def sum_of_ones(count):
@@ -32,12 +32,7 @@ class BudgetTest(unittest.TestCase):
                 self.assertEqual(value(term, 1001), -1)
 
 
-class TokenTest(unittest.TestCase):
-    def check(self, rows):
-        for term, answer in rows:
-            with self.subTest(term):
-                self.assertEqual(value(term), answer)
-
+class TokenTest(TermCase):
     def test_blanks(self):
         self.check([("  1  ", "1"), ("(+1 2)", "3"), ("( + 1 2 )", "3"), ("(  -   1   2  )", "-1"), ("", -4), (" ", -4),
                     ("1 2", -4), ("(+ 1\n2)", -4), ("(+ 1\t2)", -4), ("(fn x x)", "fn"), ("(fnx x)", -5),
@@ -90,35 +85,32 @@ class TokenTest(unittest.TestCase):
         self.assertEqual(value("1" * 2000), -4)
 
 
-class MeasureTest(unittest.TestCase):
-    def check(self, rows):
-        before = [base("m"), base("s"), world("m", "2"), world("s", "5"), unit("km", "1000 m")]
-        for term, answer in rows:
-            with self.subTest(term):
-                self.assertEqual(value(term, before=before), answer)
+class MeasureTest(TermCase):
+    def check_measured(self, rows):
+        self.check(rows, before=[base("m"), base("s"), world("m", "2"), world("s", "5"), unit("km", "1000 m")])
 
     def test_measures(self):
-        self.check([("3[m]", "6"), ("3[1]", "3"), ("3[m^2]", "12"), ("3[m/s]", "6/5"), ("3[m.s]", "30"), ("3[1/s]", "3/5"),
+        self.check_measured([("3[m]", "6"), ("3[1]", "3"), ("3[m^2]", "12"), ("3[m/s]", "6/5"), ("3[m.s]", "30"), ("3[1/s]", "3/5"),
                     ("-1/2[m^-1]", "-1/4"), ("1[km^-2]", "1/4000000"), ("0.5[m/s^2.m]", "2/25"), ("0[m]", "0"), ("1[m^0]", "1"),
                     ("1[m/s^-1]", "10"), ("1[m^06]", "64"), ("1[m/m]", "1"), ("(pair 3[m]4[s])", "(6, 20)"), ("(+1[m]1[m])", "4")])
 
     def test_no_measure_texts(self):
-        self.check([(f"3[{measure}]", -4) for measure in [
+        self.check_measured([(f"3[{measure}]", -4) for measure in [
             "", " ", "m ", " m", "m s", "2", "m.", "m/", "/m", ".m", "m..s", "m^", "m^-", "m^100", "m^--1", "m^+1", "M", "1^2",
             "m^x", "2m", "m2.5", "m^1.5", "[m]", "m[", "(m)", "m*s", "abcdefghijklm", "m?", "m-1", "_m", "11", "m//s", "m^1/2"]])
-        self.check([("3 [m]", -4), ("3[m", -4), ("3[m)", -4), ("3]", -4), ("[m]", -4), ("x[m]", -4), ("3[m][m]", -4),
+        self.check_measured([("3 [m]", -4), ("3[m", -4), ("3[m)", -4), ("3]", -4), ("[m]", -4), ("x[m]", -4), ("3[m][m]", -4),
                     ("true[m]", -4), ("3[", -4), ("(+ 3[m 1)", -4), ("3[m]]", -4), ([51, 91, 200, 93], -4)])
 
     def test_unknown_measures(self):
-        self.check([("1[x]", -6), ("1[m.x]", -6), ("1[x^0]", -6), ("1[k]", -6), ("1[kmm]", -6), ("(+ 1 2[abcdefghijkl])", -6)])
+        self.check_measured([("1[x]", -6), ("1[m.x]", -6), ("1[x^0]", -6), ("1[k]", -6), ("1[kmm]", -6), ("(+ 1 2[abcdefghijkl])", -6)])
 
     def test_twenty_factors(self):
-        self.check([("1[" + ".".join(["1"] * 20) + "]", "1"), ("1[" + ".".join(["1"] * 21) + "]", -7),
+        self.check_measured([("1[" + ".".join(["1"] * 20) + "]", "1"), ("1[" + ".".join(["1"] * 21) + "]", -7),
                     ("1[" + "/".join(["m"] * 20) + "]", "1/262144"), ("1[" + "/".join(["m"] * 21) + "]", -7),
                     ("1[" + ".".join(["1"] * 21 + ["x"]) + "]", -6)])
 
     def test_powers_at_99(self):
-        self.check([("1[m^99]", str(2 ** 99)), ("1[m^-99]", f"1/{2 ** 99}"), ("1[m^99.m]", -7), ("1[m^-99/m]", -7),
+        self.check_measured([("1[m^99]", str(2 ** 99)), ("1[m^-99]", f"1/{2 ** 99}"), ("1[m^99.m]", -7), ("1[m^-99/m]", -7),
                     ("1[m^99.m^99/m^99]", str(2 ** 99)), ("1[m^99.m/m]", str(2 ** 99)), ("0[m^99.m]", -7)])
 
     def test_ratios_at_10_to_the_40(self):
@@ -127,17 +119,10 @@ class MeasureTest(unittest.TestCase):
                 ("1[1/big]", "1/1" + "0" * 39), ("1[1/big/ten]", -7), ("1[1/big/two^3]", "1/8" + "0" * 39),
                 ("1[1/big/two^4]", -7), ("999[big]", "999" + "0" * 39), ("1[big^99/big^98]", "1" + "0" * 39),
                 ("1[big^2]", -7), ("0[big^2]", -7)]
-        for term, answer in rows:
-            with self.subTest(term):
-                self.assertEqual(value(term, before=before), answer)
+        self.check(rows, before=before)
 
 
-class FormTest(unittest.TestCase):
-    def check(self, rows):
-        for term, answer in rows:
-            with self.subTest(term):
-                self.assertEqual(value(term), answer)
-
+class FormTest(TermCase):
     def test_too_few_or_too_many_in_a_form(self):
         forms = {"fn": "x 1", "rec": "f x 1", "let": "x 1 2", "if": "true 1 2", "pair": "1 2", "fst": "(pair 1 2)",
                  "snd": "(pair 1 2)", "cons": "1 nil", "case": "nil 1 h t 2", "fold": "1 2 nil", "floor": "7 2", "rest": "7 2",
@@ -209,35 +194,33 @@ class FormTest(unittest.TestCase):
         self.assertEqual(value("(fn x " * 40 + "1" + ")" * 40), -4)
 
 
-class NodeTest(unittest.TestCase):
-    def check(self, rows):
-        for term, answer in rows:
-            with self.subTest(term):
-                self.assertEqual(value(term, before=[base("m"), unit("u", "m^60")]), answer)
+class NodeTest(TermCase):
+    def check_nodes(self, rows):
+        self.check(rows, before=[base("m"), unit("u", "m^60")])
 
     def test_free_names(self):
-        self.check([("x", -5), ("(fn x y)", -5), ("(let x x 1)", -5), ("(let x 1 (pair x y))", -5), ("(case nil h h t 1)", -5),
+        self.check_nodes([("x", -5), ("(fn x y)", -5), ("(let x x 1)", -5), ("(let x 1 (pair x y))", -5), ("(case nil h h t 1)", -5),
                     ("(case h 1 h t 1)", -5), ("(case nil t h t 1)", -5), ("(pair (fn x 1) x)", -5), ("(rec f x y)", -5),
                     ("((rec f x 1) f)", -5), ("(if true 1 x)", -5), ("(fold x 1 nil)", -5), ("(pair (let x 1 x) x)", -5)])
 
     def test_bound_names(self):
-        self.check([("(fn x x)", "fn"), ("(rec f x (f x))", "fn"), ("(let x 1 x)", "1"), ("(case (cons 1 nil) 0 h t (pair h t))", "(1, [])"),
+        self.check_nodes([("(fn x x)", "fn"), ("(rec f x (f x))", "fn"), ("(let x 1 x)", "1"), ("(case (cons 1 nil) 0 h t (pair h t))", "(1, [])"),
                     ("(let x 1 (fn y (pair x y)))", "fn")])
 
     def test_the_first_node_counts(self):
-        self.check([("(pair x 1[k])", -5), ("(pair 1[k] x)", -6), ("(pair 1[u.u] 1[k])", -7), ("(pair 1[k] 1[u.u])", -6),
+        self.check_nodes([("(pair x 1[k])", -5), ("(pair 1[k] x)", -6), ("(pair 1[u.u] 1[k])", -7), ("(pair 1[k] 1[u.u])", -6),
                     ("(pair x 1[u.u])", -5), ("(pair 1[u.u] x)", -7), ("(pair (pair 1 x) 1[k])", -5), ("(pair (pair 1 2) (pair 1[k] x))", -6),
                     ("(case 1[k] x h t 1[u.u])", -6), ("(case nil x h t 1[k])", -5), ("(case nil 1[u.u] h t x)", -7),
                     ("(let y 1[k] x)", -6), ("(let y x 1[k])", -5), ("(fold 1[u.u] x 1[k])", -7), ("(x 1[k])", -5), ("(1[k] x)", -6)])
 
     def test_one_number_with_two_faults(self):
-        self.check([("1[u.u.k]", -6), ("1[k.u.u]", -6), ("1[k." + ".".join(["1"] * 20) + "]", -6)])
+        self.check_nodes([("1[u.u.k]", -6), ("1[k.u.u]", -6), ("1[k." + ".".join(["1"] * 20) + "]", -6)])
 
     def test_no_core_text_comes_ahead_of_the_nodes(self):
-        self.check([("(pair x", -4), ("(pair 1[k] 1[m)", -4), ("(pair 1[u.u] 1 2)", -4), ("(pair x 1/0)", -4)])
+        self.check_nodes([("(pair x", -4), ("(pair 1[k] 1[m)", -4), ("(pair 1[u.u] 1 2)", -4), ("(pair x 1/0)", -4)])
 
     def test_the_nodes_come_ahead_of_working_out(self):
-        self.check([("(pair (/ 1 0) x)", -5), ("(if true 1 1[k])", -6), ("(fn x 1[u.u])", -7), ("(1 x)", -5)])
+        self.check_nodes([("(pair (/ 1 0) x)", -5), ("(if true 1 1[k])", -6), ("(fn x 1[u.u])", -7), ("(1 x)", -5)])
 
     def test_held_values_are_no_free_names(self):
         desk = Desk()

@@ -5,7 +5,7 @@ import unittest
 from measuredterms.refusals import TooLong
 from measuredterms.showing import value_text
 from measuredterms.values import Cell, Number, Pair
-from tests.helper import base, list_term, value, world
+from tests.helper import TermCase, base, list_term, value, world
 
 # Each gives 10 to that power.
 TEN_TO_99 = "(^ 100000000000 9)"
@@ -26,12 +26,7 @@ def cells(count, first):
     return found
 
 
-class ValueTextTest(unittest.TestCase):
-    def check(self, rows):
-        for term, answer in rows:
-            with self.subTest(term):
-                self.assertEqual(value(term), answer)
-
+class ValueTextTest(TermCase):
     def test_numbers(self):
         self.check([("0", "0"), ("-5", "-5"), ("6/4", "3/2"), ("-6/4", "-3/2"), ("(/ 4 -6)", "-2/3"), ("(* 1/3 3)", "1"), ("(- 1/3 1/3)", "0"),
                     ("(/ 0 -7)", "0"), ("(+ 1/6 1/3)", "1/2"), ("(* 10 10)", "100")])

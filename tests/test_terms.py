@@ -2,19 +2,12 @@
 
 import unittest
 
-from tests.helper import base, list_term, unit, value, weighing, world
+from tests.helper import TermCase, base, list_term, unit, value, weighing, world
 
 ZERO_200 = f"(* 0 {weighing(199)})"
 ONE_200 = weighing(200)
 ONE_199 = weighing(199)
 OF_TWO_NUMBERS = ["+", "-", "*", "/", "<", "=", "floor", "rest"]
-
-
-class TermCase(unittest.TestCase):
-    def check(self, rows, budget=1000):
-        for term, answer in rows:
-            with self.subTest(term):
-                self.assertEqual(value(term, budget), answer)
 
 
 class PlainFormTest(TermCase):
