@@ -1,13 +1,14 @@
 """The object that calls are made on."""
 
 from measuredterms.measures import MOST_FACTORS, Book
-from measuredterms.refusals import BadBudget, Refused, TooFar, TooLong, UnknownMeasure, Unreadable
+from measuredterms.refusals import BadBudget, Ended, Refused, TooFar, TooLong, UnknownMeasure
 from measuredterms.showing import value_text
 from measuredterms.terms import term_of
-from measuredterms.texts import bytes_of, factor_fraction, is_measure_name, measure_factors, quantity_fraction
+from measuredterms.texts import bytes_of, factor_fraction, is_measure_name, is_name, measure_factors, quantity_fraction
 from measuredterms.working import Builder, Run, worked_out
 
 MOST_CALLS = 1000
+MOST_KEPT = 40
 LONGEST_QUANTITY = 500
 
 
@@ -62,15 +63,40 @@ class Desk:
 
     def run(self, budget, text):
         try:
-            work = self.read(budget, text)
-            value = worked_out(work, Run(budget))
-            return [0] + bytes_of(value_text(value))
-        except Unreadable as refusal:
-            return [refusal.number]
+            return shown(worked_out(self.read(budget, text), Run(budget)))
+        except Ended as end:
+            return [end.number]
+
+    def cost(self, budget, text):
+        run = Run(budget)
+        try:
+            worked_out(self.read(budget, text), run)
         except Refused as refusal:
-            return [refusal.number]
-        except TooLong:
-            return [-10]
+            return [refusal.number, budget - run.left]
+        except Ended as end:
+            return [end.number]
+        return [0, budget - run.left]
+
+    def hold(self, budget, name, text):
+        if not is_name(name):
+            return [-11]
+        if name in self.kept:
+            return [-2]
+        if len(self.kept) >= MOST_KEPT:
+            return [-3]
+        try:
+            self.kept[name] = worked_out(self.read(budget, text), Run(budget))
+        except Ended as end:
+            return [end.number]
+        return [0]
+
+    def held(self, name):
+        if name not in self.kept:
+            return [-8]
+        try:
+            return shown(self.kept[name])
+        except TooLong as end:
+            return [end.number]
 
     def clear(self):
         self.kept = {}
@@ -81,6 +107,10 @@ class Desk:
         if not 0 <= budget <= MOST_CALLS:
             raise BadBudget()
         return Builder(self.book, self.kept).build(term_of(text), (), 0)
+
+
+def shown(value):
+    return [0] + bytes_of(value_text(value))
 
 
 def quantity_of(text):

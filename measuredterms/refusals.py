@@ -1,45 +1,44 @@
 """The errors that end reading, working out and telling."""
 
 
-class Unreadable(Exception):
-    """A budget or a term that reading refuses; number is what the call answers."""
+class Ended(Exception):
+    """A call that can't be done to its end; number is what it answers."""
 
     def __init__(self, number):
         Exception.__init__(self)
         self.number = number
 
 
-class BadBudget(Unreadable):
+class BadBudget(Ended):
     def __init__(self):
-        Unreadable.__init__(self, -1)
+        Ended.__init__(self, -1)
 
 
-class NotCore(Unreadable):
+class NotCore(Ended):
     def __init__(self):
-        Unreadable.__init__(self, -4)
+        Ended.__init__(self, -4)
 
 
-class FreeName(Unreadable):
+class FreeName(Ended):
     def __init__(self):
-        Unreadable.__init__(self, -5)
+        Ended.__init__(self, -5)
 
 
-class UnknownMeasure(Unreadable):
+class UnknownMeasure(Ended):
     def __init__(self):
-        Unreadable.__init__(self, -6)
+        Ended.__init__(self, -6)
 
 
-class TooFar(Unreadable):
+class TooFar(Ended):
     def __init__(self):
-        Unreadable.__init__(self, -7)
+        Ended.__init__(self, -7)
 
 
-class Refused(Exception):
-    """A term that gives no value; number is what the call answers."""
+class Refused(Ended):
+    """A term that gives no value."""
 
     def __init__(self, number):
-        Exception.__init__(self)
-        self.number = number
+        Ended.__init__(self, number)
 
 
 class DividedByZero(Refused):
@@ -72,5 +71,8 @@ class WrongSort(Refused):
         Refused.__init__(self, 6)
 
 
-class TooLong(Exception):
+class TooLong(Ended):
     """A value that is too long to tell."""
+
+    def __init__(self):
+        Ended.__init__(self, -10)

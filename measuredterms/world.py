@@ -20,6 +20,18 @@ def answer_run(desk, numbers, texts):
     return desk.run(numbers[0], texts[0])
 
 
+def answer_cost(desk, numbers, texts):
+    return desk.cost(numbers[0], texts[0])
+
+
+def answer_hold(desk, numbers, texts):
+    return desk.hold(numbers[0], texts[0], texts[1])
+
+
+def answer_held(desk, numbers, texts):
+    return desk.held(texts[0])
+
+
 def answer_clear(desk, numbers, texts):
     return desk.clear()
 
@@ -30,6 +42,9 @@ CALLS = {
     1: (answer_unit, 0, 2),
     2: (answer_world, 0, 2),
     3: (answer_run, 1, 1),
+    4: (answer_cost, 1, 1),
+    5: (answer_hold, 1, 2),
+    6: (answer_held, 0, 1),
     7: (answer_clear, 0, 0),
 }
 

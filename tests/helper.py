@@ -4,6 +4,15 @@ import unittest
 
 from measuredterms.world import answers
 
+TAKEN_WORDS = ("fn let rec if cons case pair fst snd fold root floor rest true false nil truth num list base unit def fun "
+               "in then else match with and or not").split()
+# A function that calls itself as often as the number says that it is given.
+COUNTED = "(rec f x (if (= x 0) 7 (f (- x 1))))"
+# Each gives 10 to that power.
+TEN_TO_99 = "(^ 100000000000 9)"
+TEN_TO_891 = f"(^ {TEN_TO_99} 9)"
+TEN_TO_999 = f"(* {TEN_TO_891} (* {TEN_TO_99} 1000000000))"
+
 
 def row(text):
     """A text's bytes with their count ahead; a list is taken as the bytes themselves."""
@@ -27,8 +36,24 @@ def run(budget, term):
     return [3, budget] + row(term)
 
 
+def cost(budget, term):
+    return [4, budget] + row(term)
+
+
+def hold(budget, name, term):
+    return [5, budget] + row(name) + row(term)
+
+
+def held(name):
+    return [6] + row(name)
+
+
 def clear():
     return [7]
+
+
+def joined(*calls):
+    return [number for call in calls for number in call]
 
 
 def split_answers(numbers):
@@ -41,19 +66,21 @@ def split_answers(numbers):
     return found
 
 
-def told(answer):
-    """A lone number as that number, a 0 and bytes as the text of the bytes."""
+def told(call, answer):
+    """A lone number as that number, a cost as a tuple, a 0 and bytes as the text of the bytes."""
     if len(answer) == 1:
         return answer[0]
-    if answer[0] != 0:
+    if call[0] == 4:
+        return tuple(answer)
+    if answer[0] != 0 or call[0] not in (3, 6):
         raise AssertionError(f"not an answer: {answer}")
     return "".join(chr(byte) for byte in answer[1:])
 
 
 def ask(*calls):
     """What each of the calls is answered on one new object."""
-    numbers = answers([number for call in calls for number in call])
-    return [told(answer) for answer in split_answers(numbers)]
+    found = split_answers(answers(joined(*calls)))
+    return [told(call, answer) for call, answer in zip(calls, found, strict=True)]
 
 
 def last(*calls):
@@ -81,9 +108,16 @@ def list_term(parts):
     return term
 
 
+def plain_holds(count):
+    """So many values held, under the names h0, h1 and so on."""
+    return [hold(0, f"h{k}", str(k)) for k in range(count)]
+
+
 class TermCase(unittest.TestCase):
+    call = staticmethod(run)
+
     def check(self, rows, budget=1000, before=()):
-        """Each of the rows is a term and what a run of it is answered."""
+        """Each of the rows is a term and what the call with it is answered."""
         for term, answer in rows:
             with self.subTest(term):
-                self.assertEqual(value(term, budget, before), answer)
+                self.assertEqual(last(*before, self.call(budget, term)), answer)

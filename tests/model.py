@@ -51,7 +51,7 @@ class Model:
     def __init__(self):
         self.bases = {}
         self.units = {}
-        self.held = {}
+        self.values = {}
 
     def base(self, name):
         if not is_measure_name(name):
@@ -111,22 +111,53 @@ class Model:
         fraction = fraction_of(factor)
         if fraction is None or fraction == 0:
             return -4
-        if self.held:
+        if self.values:
             return -9
         self.bases[name] = fraction
         return 0
 
     def clear(self):
-        self.held = {}
+        self.values = {}
         return 0
 
     def run(self, budget, text):
         try:
-            term = self.read(budget, text)
-            calls = [budget]
-            return shown(self.work(term, dict(self.held), 1, calls))
+            return shown(self.given(budget, text, [budget]))
         except Stop as stop:
             return stop.number
+
+    def cost(self, budget, text):
+        calls = [budget]
+        ending = 0
+        try:
+            self.given(budget, text, calls)
+        except Stop as stop:
+            ending = stop.number
+        return ending if ending < 0 else (ending, budget - calls[0])
+
+    def hold(self, budget, name, text):
+        if not is_name(name):
+            return -11
+        if name in self.values:
+            return -2
+        if len(self.values) == 40:
+            return -3
+        try:
+            self.values[name] = self.given(budget, text, [budget])
+        except Stop as stop:
+            return stop.number
+        return 0
+
+    def held(self, name):
+        if name not in self.values:
+            return -8
+        try:
+            return shown(self.values[name])
+        except Stop as stop:
+            return stop.number
+
+    def given(self, budget, text, calls):
+        return self.work(self.read(budget, text), dict(self.values), 1, calls)
 
     def read(self, budget, text):
         if budget < 0 or budget > 1000:
@@ -137,7 +168,7 @@ class Model:
         term, behind = parse(tokens, 0)
         if behind != len(tokens) or len(list(nodes_of(term, 1))) > 300 or max(depth for node, depth in nodes_of(term, 1)) > 40:
             raise Stop(-4)
-        self.look_over(term, set(self.held))
+        self.look_over(term, set(self.values))
         return term
 
     def look_over(self, term, names):

@@ -3,7 +3,7 @@
 import random
 import unittest
 
-from tests.helper import ask, base, clear, run, unit, world
+from tests.helper import ask, base, clear, cost, held, hold, run, unit, world
 from tests.model import Model
 
 NAMES = ["x", "y", "f", "g", "l"]
@@ -13,7 +13,7 @@ MEASURES = ["m", "s", "km", "h", "in", "v"]
 def compare(test, calls):
     """Each call is its name and its arguments."""
     model = Model()
-    makers = {"base": base, "unit": unit, "world": world, "run": run, "clear": clear}
+    makers = {"base": base, "unit": unit, "world": world, "run": run, "cost": cost, "hold": hold, "held": held, "clear": clear}
     expected = [getattr(model, name)(*arguments) for name, arguments in calls]
     found = ask(*[makers[name](*arguments) for name, arguments in calls])
     for call, wanted, answer in zip(calls, expected, found, strict=True):
@@ -72,7 +72,7 @@ class Maker:
     def general(self, sort, scope, depth):
         name = self.source.choice(NAMES)
         other = self.source.choice(["number", "number", "list", "truth", "function"])
-        way = self.source.randrange(6)
+        way = self.source.randrange(7)
         if way == 0:
             return f"(let {name} {self.term(other, scope, depth)} {self.term(sort, scope + [(name, other)], depth)})"
         if way == 1:
@@ -88,6 +88,8 @@ class Maker:
             inside = self.source.choice(NAMES)
             body = self.term(sort, scope + [(name, sort), (inside, "number")], depth - 1)
             return f"(fold (fn {name} (fn {inside} {body})) {self.term(sort, scope, depth)} {self.term('list', scope, depth)})"
+        if way == 5:
+            return f"({self.leaf('function', scope)} {self.term(other, scope, depth)})"
         return f"({self.source.choice(['fst', 'snd'])} (pair {self.term(sort, scope, depth)} {self.term(sort, scope, depth)}))"
 
     def of_sort(self, sort, scope, depth):
@@ -141,6 +143,30 @@ class Maker:
         factors = ["1", "2", "1/2", "2/7", "100", "999999", "1/999999", "0", "1/0", "1234567"]
         return [("world", (self.source.choice(["m", "s", "km", "in"]), self.source.choice(factors))) for k in range(self.source.randrange(3))]
 
+    def sort(self):
+        return self.source.choice(["number", "number", "truth", "list", "pair", "function", "function"])
+
+    def budget(self):
+        return self.source.choice([0, 1, 3, 20] + [1000] * 6 + [-1 if self.source.random() < 0.2 else 1000])
+
+    def call_with_held(self, scope):
+        """A call, and the names that may be held behind it with their sorts."""
+        way = self.source.randrange(20)
+        if way == 0:
+            return (("clear", ()), [])
+        if way == 1:
+            return ((self.worlds() + [("world", ("m", "3"))])[0], scope)
+        if way < 6:
+            return (("held", (self.source.choice(NAMES + ["a1", "b2", "let", ""]),)), scope)
+        sort = self.sort()
+        text = self.term(sort, scope, self.source.choice([1, 2, 3, 4]))
+        if self.source.random() < 0.05:
+            text = self.spoiled(text)
+        if way < 14:
+            name = self.source.choice(NAMES + ["a1", "b2", "fn"])
+            return (("hold", (self.budget(), name, text)), scope + [(name, sort)])
+        return ((self.source.choice(["run", "cost"]), (self.budget(), text)), scope)
+
 
 class ModelTest(unittest.TestCase):
     def test_many_terms(self):
@@ -150,8 +176,7 @@ class ModelTest(unittest.TestCase):
             calls = maker.book()
             for k in range(6):
                 calls += maker.worlds()
-                sort = maker.source.choice(["number", "number", "truth", "list", "pair", "function"])
-                text = maker.term(sort, [], maker.source.choice([1, 2, 3, 4, 5]))
+                text = maker.term(maker.sort(), [], maker.source.choice([1, 2, 3, 4, 5]))
                 if maker.source.random() < 0.15:
                     text = maker.spoiled(text)
                 calls.append(("run", (maker.source.choice([0, 1, 3, 20, 1000, 1000, 1000]), text)))
@@ -161,6 +186,23 @@ class ModelTest(unittest.TestCase):
                 endings[key] = endings.get(key, 0) + 1
         for ending in ["value", 1, 2, 3, 4, 5, 6, -1, -2, -4, -5, -6, -7, -8]:
             self.assertGreater(endings.get(ending, 0), 0, (ending, endings))
+
+    def test_many_held_values(self):
+        endings = {}
+        for seed in range(400):
+            maker = Maker(1000 + seed)
+            calls = maker.book()
+            scope = []
+            for k in range(25):
+                call, scope = maker.call_with_held(scope)
+                calls.append(call)
+            for call, answer in zip(calls, compare(self, calls), strict=True):
+                ending = answer[0] if isinstance(answer, tuple) else answer if isinstance(answer, int) else "value"
+                endings[call[0], ending] = endings.get((call[0], ending), 0) + 1
+        wanted = {"run": ["value", 1, 2, 3, 4, 5, 6, -1, -4, -5, -6, -7], "cost": [0, 1, 2, 3, 4, 5, 6, -1, -4, -5, -6, -7],
+                  "hold": [0, 1, 2, 3, 4, 5, 6, -1, -2, -4, -5, -6, -7, -11], "held": ["value", -8], "world": [0, -8, -9], "clear": [0]}
+        for call, ending in [(call, ending) for call in wanted for ending in wanted[call]]:
+            self.assertGreater(endings.get((call, ending), 0), 0, (call, ending, endings))
 
     def test_many_spoiled_texts(self):
         texts = ["(+ 1[km] 1[m/s^2])", "((fn x (+ x -1/2)) 0.25)", "(case (cons 1 nil) 0 h t (^ h -2))", "(rec f x (if (< x 1) x (f (- x 1))))",

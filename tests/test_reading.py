@@ -2,9 +2,7 @@
 
 import unittest
 
-from measuredterms.desk import Desk
-from measuredterms.values import Number
-from tests.helper import TermCase, ask, base, last, run, unit, value, world
+from tests.helper import TAKEN_WORDS, TermCase, ask, base, hold, last, run, unit, value, world
 
 
 def sum_of_ones(count):
@@ -144,10 +142,8 @@ class FormTest(TermCase):
                     ("(1 2 3)", -4), ("fn", -4), ("(x fn)", -4), ("(fn fn 1)", -4), ("(+ + 1)", -4), ("1 1", -4), ("1)", -4)])
 
     def test_taken_words_are_no_names(self):
-        taken = ("fn let rec if cons case pair fst snd fold root floor rest true false nil truth num list base unit def fun "
-                 "in then else match with and or not").split()
-        self.assertEqual(len(taken), 31)
-        for word in taken:
+        self.assertEqual(len(TAKEN_WORDS), 31)
+        for word in TAKEN_WORDS:
             with self.subTest(word):
                 self.assertEqual(value(f"(fn {word} 1)"), -4)
                 self.assertEqual(value(f"(rec f {word} 1)"), -4)
@@ -223,11 +219,8 @@ class NodeTest(TermCase):
         self.check_nodes([("(pair (/ 1 0) x)", -5), ("(if true 1 1[k])", -6), ("(fn x 1[u.u])", -7), ("(1 x)", -5)])
 
     def test_held_values_are_no_free_names(self):
-        desk = Desk()
-        desk.kept["x"] = Number(3, 2, 1)
-        self.assertEqual(desk.run(0, "(+ x (let x 1 x))"), [0] + [ord(sign) for sign in "5/2"])
-        self.assertEqual(desk.run(1, "((fn x x) 4)"), [0, 52])
-        self.assertEqual(desk.run(0, "(pair x y)"), [-5])
+        self.check([("x", "3/2"), ("(+ x (let x 1 x))", "5/2"), ("((fn x x) 4)", "4"), ("(let x x x)", "3/2"), ("(pair x y)", -5), ("(pair x 1[k])", -6),
+                    ("(pair y x)", -5), ("(fn y x)", "fn"), ("(case nil x x y 1)", "3/2")], before=[hold(0, "x", "3/2")])
 
     def test_a_refused_run_changes_nothing(self):
         calls = [base("m"), world("m", "2"), run(-1, "1"), run(0, "("), run(0, "x"), run(0, "1[k]"), run(0, "1[m^99.m]")]

@@ -5,12 +5,7 @@ import unittest
 from measuredterms.refusals import TooLong
 from measuredterms.showing import value_text
 from measuredterms.values import Cell, Number, Pair
-from tests.helper import TermCase, base, list_term, value, world
-
-# Each gives 10 to that power.
-TEN_TO_99 = "(^ 100000000000 9)"
-TEN_TO_891 = f"(^ {TEN_TO_99} 9)"
-TEN_TO_999 = f"(* {TEN_TO_891} (* {TEN_TO_99} 1000000000))"
+from tests.helper import TEN_TO_999, TermCase, base, list_term, value, world
 
 
 def pairs(count, inside):

@@ -2,7 +2,7 @@
 
 import unittest
 
-from tests.helper import TermCase, base, list_term, unit, value, weighing, world
+from tests.helper import COUNTED, TermCase, base, list_term, unit, value, weighing, world
 
 ZERO_200 = f"(* 0 {weighing(199)})"
 ONE_200 = weighing(200)
@@ -226,9 +226,8 @@ class DepthTest(TermCase):
         self.check([(endless, 4)], 159)
 
     def test_each_form_round_a_call_is_one_deeper(self):
-        counted = "(rec f x (if (= x 0) 7 (f (- x 1))))"
-        self.check([(f"({counted} 79)", "7"), (f"({counted} 80)", 5), (f"(let g {counted} (g 79))", "7"), (f"(let g {counted} (g 80))", 5),
-                    (f"(let y 1 (let g {counted} (g 78)))", "7"), (f"(let y 1 (let g {counted} (g 79)))", 5)])
+        self.check([(f"({COUNTED} 79)", "7"), (f"({COUNTED} 80)", 5), (f"(let g {COUNTED} (g 79))", "7"), (f"(let g {COUNTED} (g 80))", 5),
+                    (f"(let y 1 (let g {COUNTED} (g 78)))", "7"), (f"(let y 1 (let g {COUNTED} (g 79)))", 5)])
 
     def test_each_part_of_each_form_is_one_deeper_than_the_form(self):
         forms = ["(let y @ 1)", "(let y 1 @)", "(if @ 1 1)", "(if true @ 1)", "(if false 1 @)", "(@ 1)", "((fn y y) @)", "(pair @ 1)", "(pair 1 @)",

@@ -1,8 +1,6 @@
 import unittest
 
-from measuredterms.desk import Desk
-from measuredterms.values import Number
-from tests.helper import ask, base, clear, last, run, unit, world
+from tests.helper import ask, base, clear, held, hold, last, run, unit, world
 
 
 class WorldTest(unittest.TestCase):
@@ -38,22 +36,29 @@ class WorldTest(unittest.TestCase):
                 self.assertEqual(ask(base("m"), world("m", "3"), world("m", factor), run(0, "1[m]")), [0, 0, -4, "3"])
 
     def test_a_held_value_keeps_the_world(self):
-        desk = Desk()
-        desk.base("m")
-        desk.kept["x"] = Number(1, 1, 1)
-        self.assertEqual(desk.world("m", "2"), [-9])
-        self.assertEqual(desk.run(0, "1[m]"), [0, 49])
-        self.assertEqual(desk.clear(), [0])
-        self.assertEqual(desk.world("m", "2"), [0])
-        self.assertEqual(desk.run(0, "1[m]"), [0, 50])
+        for term in ["1", "1[m]", "true", "nil", "(pair 1 1)", "(fn x x)"]:
+            with self.subTest(term):
+                calls = [base("m"), world("m", "3"), hold(0, "x", term), world("m", "2"), run(0, "1[m]"), clear(), world("m", "2"), run(0, "1[m]")]
+                self.assertEqual(ask(*calls), [0, 0, 0, -9, "3", 0, 0, "2"])
+
+    def test_each_held_value_keeps_each_factor(self):
+        calls = [base("m"), base("s"), hold(0, "x", "1[m]"), hold(0, "y", "1"), world("s", "2"), world("m", "1"), base("k"),
+                 world("k", "2"), run(0, "1[m.s.k]")]
+        self.assertEqual(ask(*calls), [0, 0, 0, 0, -9, -9, 0, -9, "1"])
+
+    def test_what_was_not_held_keeps_no_world(self):
+        calls = [base("m"), hold(0, "x", "(/ 1 0)"), hold(0, "x", "("), hold(0, "let", "1"), held("x"), run(0, "(let x 1 x)"),
+                 world("m", "2"), run(0, "1[m]")]
+        self.assertEqual(ask(*calls), [0, 1, -4, -11, -8, "1", 0, "2"])
 
     def test_order_of_refusals(self):
-        desk = Desk()
-        desk.base("m")
-        desk.kept["x"] = Number(1, 1, 1)
-        self.assertEqual(desk.world("s", "?"), [-8])
-        self.assertEqual(desk.world("m", "?"), [-4])
-        self.assertEqual(desk.world("m", "1"), [-9])
+        before = [base("m"), unit("km", "m"), hold(0, "x", "1")]
+        for name, factor, answer in [("s", "?", -8), ("s", "2", -8), ("km", "2", -8), ("x", "2", -8), ("", "2", -8), ("m", "?", -4),
+                                     ("m", "0", -4), ("m", "1/0", -4),
+                                     ("m", "1234567", -4), ("m", "1", -9), ("m", "2/7", -9)]:
+            with self.subTest((name, factor)):
+                self.assertEqual(last(*before, world(name, factor)), answer)
+        self.assertEqual(last(base("m"), world("s", "?")), -8)
 
     def test_the_same_run_in_two_worlds(self):
         term = "(pair (/ 6[km] 3[m]) (pair (* 2[m] 3[s]) (cons (< 1[m] 1[s]) (cons (root 9[m^2]) nil))))"
@@ -72,24 +77,6 @@ class WorldTest(unittest.TestCase):
                 self.assertEqual(last(*calls, run(5, loop)), "5")
                 self.assertEqual(last(*calls, run(4, loop)), 4)
                 self.assertEqual(last(*calls, run(1000, heavy)), 3)
-
-
-class ClearTest(unittest.TestCase):
-    def test_clear_without_held_values(self):
-        self.assertEqual(ask(clear(), clear()), [0, 0])
-
-    def test_clear_leaves_the_book_and_the_world(self):
-        calls = [base("m"), unit("km", "1000 m"), world("m", "1/2"), clear(), run(0, "1[km]"), base("m"), world("m", "3")]
-        self.assertEqual(ask(*calls, run(0, "1[km]")), [0, 0, 0, 0, "500", -2, 0, "3000"])
-
-    def test_clear_ends_what_is_held(self):
-        desk = Desk()
-        desk.kept["x"] = Number(7, 1, 1)
-        desk.kept["y"] = True
-        self.assertEqual(desk.run(0, "(pair x y)"), [0] + [ord(sign) for sign in "(7, true)"])
-        self.assertEqual(desk.clear(), [0])
-        self.assertEqual(desk.run(0, "x"), [-5])
-        self.assertEqual(desk.run(0, "y"), [-5])
 
 
 if __name__ == "__main__":
